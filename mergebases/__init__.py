@@ -1,0 +1,1 @@
+"""Histories that branch and meet again."""
