@@ -30,6 +30,15 @@ class Commits:
                     seen[parent] = True
         return seen
 
+    # Answers for every commit whether it comes from the ancestor.
+    def reaching(self, ancestor):
+        found = [False] * len(self.parents)
+        found[ancestor] = True
+        # On the way up all is known of the parents by the time that their child is met.
+        for commit in range(ancestor + 1, len(self.parents)):
+            found[commit] = any([found[parent] for parent in self.parents[commit]])
+        return found
+
     def comes_from(self, commit, ancestor):
         return self.reached([commit])[ancestor]
 
@@ -65,3 +74,45 @@ class Commits:
     # The best common ancestors are by their definition the heads of all common ancestors.
     def best_common(self, members):
         return self.heads(self.common_ancestors(members))
+
+    # A child has a higher number than all that it comes from: falling numbers put it before them.
+    def falling(self):
+        return list(range(len(self.parents) - 1, -1, -1))
+
+    def walk(self, first, second):
+        inside = self.reached(first)
+        outside = self.reached(second)
+        return [commit for commit in self.falling() if inside[commit] and not outside[commit]]
+
+    def between(self, upper, lower):
+        below = self.reached([upper])
+        above = self.reaching(lower)
+        return [commit for commit in self.falling() if below[commit] and above[commit]]
+
+    # Answers None where there are no candidates, which stand falling, as in a walk.
+    def best_look(self, candidates):
+        best = None
+        most = -1
+        # Rising, so that of equals the lowest is met first and stays.
+        for candidate in reversed(candidates):
+            seen = self.reached([candidate])
+            inside = len([other for other in candidates if seen[other]])
+            smaller = min(inside, len(candidates) - inside)
+            if smaller > most:
+                best = candidate
+                most = smaller
+        return best
+
+    # Forgets the commits that none of the starts come from. Answers for every commit that there
+    # was its new number, None for one that is forgotten.
+    def keep_reached(self, starts):
+        seen = self.reached(starts)
+        new_numbers = [None] * len(self.parents)
+        kept = []
+        for commit in range(len(self.parents)):
+            if seen[commit]:
+                # The parents of a commit that is kept are kept, and were numbered before it.
+                new_numbers[commit] = len(kept)
+                kept.append([new_numbers[parent] for parent in self.parents[commit]])
+        self.parents = kept
+        return new_numbers

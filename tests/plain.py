@@ -1,29 +1,47 @@
 """What the tests share: how calls are written, and a plain reckoning by the document's definitions."""
 
+import itertools
+import unittest
+
 from mergebases.history import answers
 
-NUMBERS = {"add": 0, "parents": 1, "comes_from": 2, "steps": 3, "best": 4, "heads": 5}
+NUMBERS = {"add": 0, "parents": 1, "comes_from": 2, "steps": 3, "best": 4, "heads": 5, "walk": 6, "between": 7,
+           "halve": 8, "mark": 9, "marked": 10, "prune": 11}
 HIGHEST = 4294967295
+CHAIN = [[]] + [[number] for number in range(127)]
+# 1 and 2 are merged crosswise as 3 and 4; 5 comes from 3 alone; 6 is apart.
+CROSS = [[], [0], [0], [1, 2], [2, 1], [3], []]
+
+
+class Case(unittest.TestCase):
+    """Of two long lists unittest tells every difference, which can take it minutes; here the first is told."""
+
+    def setUp(self):
+        self.addTypeEqualityFunc(list, self.same_lists)
+
+    def same_lists(self, told, wanted, msg=None):
+        for place, (one, other) in enumerate(itertools.zip_longest(told, wanted)):
+            if one != other:
+                self.fail(f"at place {place} of the list: {one!r}, not {other!r}; {msg}")
+
+
+def standing(calls):
+    """How many numbers stand in the calls, the lengths of lists not counted."""
+    values = [value for call in calls for value in call]
+    return sum(len(value) if isinstance(value, list) else 1 for value in values)
 
 
 def flat(calls):
     """The one list in which the calls stand; a call is its name, then numbers and lists."""
     listed = []
-    standing = 0
     for name, *given in calls:
         listed.append(NUMBERS[name])
-        standing += 1
         for value in given:
-            if isinstance(value, list):
-                listed += [len(value)] + value
-                standing += len(value)
-            else:
-                listed.append(value)
-                standing += 1
+            listed += [len(value)] + value if isinstance(value, list) else [value]
     # A test that hands in more than the document allows would show nothing.
     assert 1 <= len(calls) <= 400, len(calls)
     assert len(listed) <= 30000, len(listed)
-    assert len(calls) * (1000 + standing) <= 1000000, (len(calls), standing)
+    assert len(calls) * (1000 + standing(calls)) <= 1000000, (len(calls), standing(calls))
     return listed
 
 
@@ -97,6 +115,41 @@ class Plain:
     def heads(self, members):
         return self.none_other_from(members)
 
+    def best_stand_for_all(self, members, best):
+        """Promise 1, by its own words."""
+        common = self.common(members)
+        return (set(best) <= set(common)
+                and all(any(self.comes_from(one, ancestor) for one in best) for ancestor in common)
+                and all([other for other in best if self.comes_from(other, one)] == [one] for one in best))
+
+    def heads_stand_for_all(self, members, heads):
+        """Promise 3, by its own words."""
+        return set(heads) <= set(members) and self.reached(heads) == self.reached(members)
+
+    def reached(self, members):
+        return {c for c in self.commits if any(self.comes_from(member, c) for member in members)}
+
+    def walk(self, first, second):
+        return sorted(self.reached(first) - self.reached(second), reverse=True)
+
+    def between(self, a, b):
+        return [c for c in reversed(self.commits) if self.comes_from(a, c) and self.comes_from(c, b)]
+
+    def looks(self, candidates):
+        """For each candidate how many candidates a look at it is sure to be done with."""
+        looks = {}
+        for candidate in candidates:
+            inside = [other for other in candidates if self.comes_from(candidate, other)]
+            others = [other for other in candidates if other not in inside]
+            looks[candidate] = min(len(inside), len(others))
+        return looks
+
+    def halve(self, first, second):
+        looks = self.looks(self.walk(first, second))
+        if not looks:
+            return [0]
+        return [1, min(c for c in looks if looks[c] == max(looks.values()))]
+
 
 class Draw:
     """Numbers that are the same each time, on every Python."""
@@ -143,3 +196,20 @@ def ladder(rungs):
         left = 2 * rung
         history += [[left, left + 1], [left + 1, left]]
     return history
+
+
+def large_histories():
+    draw = Draw(2026)
+    made = [ladder(63), CHAIN, [[] for number in range(128)]]
+    for size, most, near in ((128, 2, 4), (128, 2, 128), (128, 8, 10), (100, 3, 6), (60, 2, 3), (30, 8, 30)):
+        made += [drawn_history(draw, size, most, near) for turn in range(4)]
+    return made
+
+
+def subsets(size):
+    return [[n for n in range(size) if mask >> n & 1] for mask in range(1, 2 ** size)]
+
+
+def drawn_sets(size):
+    draw = Draw(size)
+    return [[draw.below(size) for turn in range(count)] for count in (1, 2, 2, 2, 3, 3, 4, 5, 8, 13, 64)]

@@ -1,11 +1,9 @@
 import unittest
 
-from tests.plain import HIGHEST, ask, ask_of
-
-CHAIN = [[]] + [[number] for number in range(127)]
+from tests.plain import CHAIN, HIGHEST, Case, ask, ask_of
 
 
-class Add(unittest.TestCase):
+class Add(Case):
     def test_numbers_rise_from_0(self):
         self.assertEqual(ask([("add", []), ("add", [0]), ("add", [0]), ("add", [2, 1])]), [[0], [1], [2], [3]])
 
@@ -52,7 +50,7 @@ class Add(unittest.TestCase):
         self.assertEqual(ask(calls), [[0], [-1], [-1], [1], [1, 0], [-1]])
 
 
-class Parents(unittest.TestCase):
+class Parents(Case):
     def test_none(self):
         self.assertEqual(ask_of([[]], [("parents", 0)]), [[0]])
 

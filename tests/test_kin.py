@@ -1,13 +1,12 @@
 import unittest
 
-from tests.plain import HIGHEST, ask, ask_of
+from tests.plain import CHAIN, HIGHEST, Case, ask, ask_of
 
-CHAIN = [[]] + [[number] for number in range(127)]
 # A short way from 6 to 0 that stands behind a long one, and 7 apart from all.
 DETOUR = [[], [0], [1], [2], [3], [0], [4, 5], []]
 
 
-class ComesFrom(unittest.TestCase):
+class ComesFrom(Case):
     def test_itself(self):
         self.assertEqual(ask_of(DETOUR, [("comes_from", 0, 0), ("comes_from", 6, 6)]), [[1], [1]])
 
@@ -38,7 +37,7 @@ class ComesFrom(unittest.TestCase):
         self.assertEqual(ask([("comes_from", 0, 0)]), [[-1]])
 
 
-class Steps(unittest.TestCase):
+class Steps(Case):
     def test_to_itself(self):
         self.assertEqual(ask_of(DETOUR, [("steps", 0, 0), ("steps", 6, 6)]), [[0], [0]])
 

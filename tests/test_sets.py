@@ -1,13 +1,9 @@
 import unittest
 
-from tests.plain import HIGHEST, ask, ask_of
-
-CHAIN = [[]] + [[number] for number in range(127)]
-# 1 and 2 are merged crosswise as 3 and 4; 5 comes from 3 alone; 6 is apart.
-CROSS = [[], [0], [0], [1, 2], [2, 1], [3], []]
+from tests.plain import CHAIN, CROSS, HIGHEST, Case, ask, ask_of
 
 
-class Refused(unittest.TestCase):
+class Refused(Case):
     """What best and heads refuse alike."""
 
     def refused(self, history, members):
@@ -39,7 +35,7 @@ class Refused(unittest.TestCase):
         self.refused(CROSS, [HIGHEST] * 1000)
 
 
-class Best(unittest.TestCase):
+class Best(Case):
     def best(self, history, members):
         return ask_of(history, [("best", members)])[0]
 
@@ -85,7 +81,7 @@ class Best(unittest.TestCase):
         self.assertEqual(self.best(history, [4, 5]), [2, 0, 3])
 
 
-class Heads(unittest.TestCase):
+class Heads(Case):
     def heads(self, history, members):
         return ask_of(history, [("heads", members)])[0]
 
